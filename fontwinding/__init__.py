@@ -1,0 +1,1 @@
+"""Fontwinding: a compiler for bitmap fonts whose pixels are winding numbers."""

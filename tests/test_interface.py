@@ -1,0 +1,85 @@
+"""The interface: names, files, arguments and kinds of values; and the examples of README.md."""
+
+import doctest
+import importlib
+import inspect
+import unittest
+from pathlib import Path
+
+README = Path(__file__).resolve().parent.parent / "README.md"
+
+# Arguments behind a * are passed by keyword.
+FUNCTIONS = {
+    "ratios": {
+        "ratio": "n, d", "add": "a, b", "subtract": "a, b", "multiply": "a, b", "divide": "a, b",
+        "compare": "a, b", "floor_of": "a", "nearest": "a", "sixty_fourths": "a"},
+    "forms": {
+        "known_form": "number", "unknown_form": "unknown", "add_forms": "a, b", "subtract_forms": "a, b",
+        "scale_form": "form, number", "replace_unknown": "form, unknown, other", "coefficient": "form, unknown"},
+    "transforms": {
+        "apply": "transform, point", "compose": "first, second", "inverse": "transform", "shift_by": "point",
+        "scale_by": "x, y", "slant_by": "s", "turn_by": "quarters"},
+    "paths": {
+        "polygon": "points, *, cycle", "length": "path", "reverse": "path", "transform_path": "path, transform"},
+    "cuts": {
+        "between": "p, q, fraction", "cut_segment": "a, segment, b, fraction", "point_at": "path, time",
+        "subpath": "path, start, end"},
+    "joins": {"join_points": "points, joins, *, cycle=False"},
+}
+METHODS = {"equations": {"Equations": {
+    "__init__": "self", "new_unknown": "self", "kind": "self, unknown", "form": "self, unknown",
+    "reduce": "self, form", "equate": "self, left, right"}}}
+
+
+def arguments(function):
+    return str(inspect.signature(function))[1:-1]
+
+
+class InterfaceTest(unittest.TestCase):
+    def test_functions(self):
+        for name, functions in FUNCTIONS.items():
+            module = importlib.import_module("fontwinding." + name)
+            for function, wanted in functions.items():
+                told = getattr(module, function)
+                self.assertTrue(inspect.isfunction(told), function)
+                self.assertEqual(told.__module__, module.__name__, function)
+                self.assertEqual(arguments(told), wanted, function)
+
+    def test_methods(self):
+        for name, classes in METHODS.items():
+            module = importlib.import_module("fontwinding." + name)
+            for class_name, methods in classes.items():
+                told = getattr(module, class_name)
+                self.assertEqual(told.__module__, module.__name__, class_name)
+                for method, wanted in methods.items():
+                    self.assertEqual(arguments(vars(told)[method]), wanted, method)
+
+    def test_properties(self):
+        from fontwinding.equations import Equations
+        self.assertIsInstance(vars(Equations)["unknowns"], property)
+
+    def test_arguments_may_be_named(self):
+        from fontwinding.cuts import cut_segment, point_at, subpath
+        from fontwinding.joins import join_points
+        from fontwinding.paths import polygon
+        a, b = ((0, 1), (0, 1)), ((2, 1), (0, 1))
+        path = polygon(points=[a, b], cycle=False)
+        self.assertEqual(join_points(points=[a, b], joins=["line"], cycle=False), path)
+        self.assertEqual(subpath(path=path, start=(0, 1), end=(1, 1)), path)
+        self.assertEqual(point_at(path=path, time=(1, 2)), ((1, 1), (0, 1)))
+        self.assertEqual(cut_segment(a=a, segment=None, b=b, fraction=(1, 2)), (None, ((1, 1), (0, 1)), None))
+
+
+class ReadmeTest(unittest.TestCase):
+    def test_examples(self):
+        rows = README.read_text(encoding="utf-8").split("\n")
+        text = "\n".join("" if row.startswith("```") else row for row in rows)
+        test = doctest.DocTestParser().get_doctest(text, {}, "README.md", str(README), 0)
+        self.assertGreater(len(test.examples), 10)
+        told = []
+        result = doctest.DocTestRunner(verbose=False).run(test, out=told.append)
+        self.assertEqual(result.failed, 0, "".join(told))
+
+
+if __name__ == "__main__":
+    unittest.main()

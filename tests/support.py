@@ -1,4 +1,4 @@
-"""What several tests need: a way from tuples to fractions and back."""
+"""What several tests need: a way from tuples to fractions and back, and rows of pixels."""
 
 from fractions import Fraction
 
@@ -65,3 +65,28 @@ def is_form(form):
     if unknowns != sorted(set(unknowns)) or any(type(u) is not int or u < 0 for u in unknowns):
         return False
     return all(type(t) is tuple and len(t) == 2 and is_number(t[1]) and t[1][0] != 0 for t in form[1])
+
+
+def blank():
+    """Rows of pixels that are all 0."""
+    return [[0] * 48 for _ in range(48)]
+
+
+def rows_with(weights):
+    """The rows of pixels with the items of a dict of pixels."""
+    rows = blank()
+    for (i, j), item in weights.items():
+        rows[j + 16][i + 8] = item
+    return rows
+
+
+def pixels(rows):
+    """The dict of the pixels whose items are not 0."""
+    return {(k - 8, at - 16): item for at, row in enumerate(rows) for k, item in enumerate(row) if item != 0}
+
+
+def is_rows(rows):
+    """True for rows of pixels as point 25 describes them, each a list of its own."""
+    if type(rows) is not list or len(rows) != 48 or len({id(row) for row in rows}) != 48:
+        return False
+    return all(type(row) is list and len(row) == 48 and all(type(item) is int for item in row) for row in rows)

@@ -25,6 +25,12 @@ FUNCTIONS = {
         "between": "p, q, fraction", "cut_segment": "a, segment, b, fraction", "point_at": "path, time",
         "subpath": "path, start, end"},
     "joins": {"join_points": "points, joins, *, cycle=False"},
+    "outlines": {"grid_point": "point", "outline": "path", "lay_out": "a, b, c, d, depth"},
+    "winding": {
+        "crossing": "a, b, x, y", "winding_number": "outline, x, y", "double_area": "outline", "lines": "outline"},
+    "filling": {"fill_rows": "outline", "blank_rows": ""},
+    "hulls": {"corners": "points"},
+    "pens": {"sweep": "pen, p, q", "cover_rows": "pen, outline", "extent": "pen"},
 }
 METHODS = {"equations": {"Equations": {
     "__init__": "self", "new_unknown": "self", "kind": "self, unknown", "form": "self, unknown",

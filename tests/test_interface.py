@@ -31,10 +31,19 @@ FUNCTIONS = {
     "filling": {"fill_rows": "outline", "blank_rows": ""},
     "hulls": {"corners": "points"},
     "pens": {"sweep": "pen, p, q", "cover_rows": "pen, outline", "extent": "pen"},
+    "lexer": {"tokens": "text"},
+    "statements": {"parse": "text"},
+    "formatter": {"format_program": "tree"},
 }
-METHODS = {"equations": {"Equations": {
-    "__init__": "self", "new_unknown": "self", "kind": "self, unknown", "form": "self, unknown",
-    "reduce": "self, form", "equate": "self, left, right"}}}
+METHODS = {
+    "equations": {"Equations": {
+        "__init__": "self", "new_unknown": "self", "kind": "self, unknown", "form": "self, unknown",
+        "reduce": "self, form", "equate": "self, left, right"}},
+    "pictures": {"Picture": {
+        "__init__": "self", "weight": "self, i, j", "rows": "self", "add_rows": "self, rows, *, factor=1",
+        "wipe": "self", "total": "self", "on_pixels": "self", "shifted": "self, di, dj",
+        "__add__": "self, other", "__sub__": "self, other", "__neg__": "self"}},
+}
 
 
 def arguments(function):
@@ -74,6 +83,13 @@ class InterfaceTest(unittest.TestCase):
         self.assertEqual(subpath(path=path, start=(0, 1), end=(1, 1)), path)
         self.assertEqual(point_at(path=path, time=(1, 2)), ((1, 1), (0, 1)))
         self.assertEqual(cut_segment(a=a, segment=None, b=b, fraction=(1, 2)), (None, ((1, 1), (0, 1)), None))
+        from fontwinding.outlines import lay_out
+        from fontwinding.winding import winding_number
+        self.assertEqual(lay_out(a=(0, 0), b=(1, 1), c=(2, 2), d=(3, 3), depth=0), [(3, 3)])
+        self.assertEqual(winding_number(outline=[(0, 0)], x=0, y=0), 0)
+        from fontwinding.formatter import format_program
+        from fontwinding.statements import parse
+        self.assertEqual(format_program(tree=parse(text="endchar;")), "endchar;\n")
 
 
 class ReadmeTest(unittest.TestCase):

@@ -168,6 +168,12 @@ class OutlineTest(unittest.TestCase):
         told = outline(join_points(knots, [("curve", *controls)]))
         self.assertEqual(told, [(1, 0)] + laid_out((1, 0), (0, 192), (320, -1), (2, 576), 0))
 
+    def test_a_curve_is_halved_five_times_at_most(self):
+        far = join_points([A, B], [("curve", *points((10 ** 15, 3), (-10 ** 15, 10 ** 15)))])
+        told = outline(far)
+        self.assertEqual(len(told), 1 + 2 ** 5)
+        self.assertEqual(told[1:], lay_out((0, 0), (64 * 10 ** 15, 192), (-64 * 10 ** 15, 64 * 10 ** 15), (256, 0), 0))
+
     def test_equal_neighbors_stay(self):
         near = points((0, 0), (Fraction(1, 1000), 0), (0, Fraction(1, 1000)))
         self.assertEqual(outline(polygon(near, cycle=True)), [(0, 0)] * 4)

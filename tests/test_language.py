@@ -33,6 +33,8 @@ def own_names(tree):
             names.add(node.asname or node.name)
         elif isinstance(node, ast.Name) and isinstance(node.ctx, (ast.Store, ast.Del)):
             names.add(node.id)
+        elif isinstance(node, ast.ExceptHandler) and node.name is not None:
+            names.add(node.name)
     return names
 
 

@@ -366,8 +366,8 @@ class CharacterTest(ProgramCase):
 
     def test_the_borders(self):
         for i, j in ((-8, -16), (39, -16), (-8, 31), (39, 31)):
-            self.assertEqual(self.character(f"fill ((0, 0) -- (1, 0) -- (1, 1) -- (0, 1) -- cycle) shifted ({i}, {j});"),
-                             (65, i, j, ((1,),), (64, 64, 0, 0)))
+            pixel = f"((0, 0) -- (1, 0) -- (1, 1) -- (0, 1) -- cycle) shifted ({i}, {j})"
+            self.assertEqual(self.character(f"fill {pixel};"), (65, i, j, ((1,),), (64, 64, 0, 0)))
         rows = self.character("fill (-8, -16) -- (-7, -16) -- (-7, -15) -- (-8, -15) -- cycle; "
                               "fill (39, 31) -- (40, 31) -- (40, 32) -- (39, 32) -- cycle;")
         self.assertEqual(rows[:3], (65, -8, -16))

@@ -34,6 +34,18 @@ FUNCTIONS = {
     "lexer": {"tokens": "text"},
     "statements": {"parse": "text"},
     "formatter": {"format_program": "tree"},
+    "metrics": {
+        "groups": "values, tolerance", "least_tolerance": "values, limit", "table": "values, limit",
+        "table_value": "values, limit, value"},
+    "ligatures": {
+        "rule": "steps, labels, left, right", "pair_end": "steps, labels, left, right",
+        "endless_pairs": "steps, labels"},
+    "settings": {"set_line": "steps, labels, codes"},
+    "nybbles": {"write_length": "n, way", "read_length": "nybbles, index, way"},
+    "packing": {
+        "pack": "rows, way", "best_way": "rows", "unpack": "nybbles, way, columns, count, first_pixel"},
+    "files": {"write_font": "font", "read_font": "data"},
+    "compiler": {"compile_font": "text, *, resolution=1"},
 }
 METHODS = {
     "equations": {"Equations": {
@@ -43,6 +55,21 @@ METHODS = {
         "__init__": "self", "weight": "self, i, j", "rows": "self", "add_rows": "self, rows, *, factor=1",
         "wipe": "self", "total": "self", "on_pixels": "self", "shifted": "self, di, dj",
         "__add__": "self, other", "__sub__": "self, other", "__neg__": "self"}},
+    "machine": {"Machine": {
+        "__init__": "self, *, resolution=1", "run": "self, tree", "value": "self, name, subscript=None",
+        "shown": "self", "pen": "self", "characters_made": "self", "steps_made": "self", "labels_made": "self"}},
+    "fonts": {"Font": {
+        "__init__": "self, characters, steps, labels", "__len__": "self", "__contains__": "self, code",
+        "__iter__": "self", "character": "self, code", "pixel": "self, code, i, j", "table": "self, metric",
+        "table_value": "self, code, metric", "line": "self, codes", "width": "self, codes",
+        "positions": "self, codes"}},
+}
+VALUES = {
+    "ratios": {"LIMIT": 10 ** 18},
+    "transforms": {"IDENTITY": ((0, 1), (0, 1), (1, 1), (0, 1), (0, 1), (1, 1))},
+    "filling": {"LEFT": -8, "BOTTOM": -16, "SIZE": 48},
+    "metrics": {"LIMITS": (8, 4, 3, 2)},
+    "ligatures": {"EDGE": 128},
 }
 
 
@@ -71,7 +98,21 @@ class InterfaceTest(unittest.TestCase):
 
     def test_properties(self):
         from fontwinding.equations import Equations
+        from fontwinding.machine import Machine
         self.assertIsInstance(vars(Equations)["unknowns"], property)
+        self.assertIsInstance(vars(Machine)["is_open"], property)
+
+    def test_values(self):
+        for name, values in VALUES.items():
+            module = importlib.import_module("fontwinding." + name)
+            for word, wanted in values.items():
+                self.assertEqual(getattr(module, word), wanted, word)
+
+    def test_attributes_of_new_objects(self):
+        from fontwinding.fonts import Font
+        from fontwinding.machine import Machine
+        self.assertLessEqual({"equations", "picture"}, set(vars(Machine())))
+        self.assertLessEqual({"characters", "steps", "labels"}, set(vars(Font((), (), ()))))
 
     def test_arguments_may_be_named(self):
         from fontwinding.cuts import cut_segment, point_at, subpath
@@ -90,6 +131,12 @@ class InterfaceTest(unittest.TestCase):
         from fontwinding.formatter import format_program
         from fontwinding.statements import parse
         self.assertEqual(format_program(tree=parse(text="endchar;")), "endchar;\n")
+        from fontwinding.compiler import compile_font
+        from fontwinding.files import read_font, write_font
+        from fontwinding.packing import pack, unpack
+        font = read_font(data=write_font(font=compile_font(text="ligtable 1: 2 kern 3;", resolution=2)))
+        self.assertEqual(font.width(codes=[1, 2]), 192)
+        self.assertEqual(unpack(nybbles=pack(rows=((1,),), way=5), way=5, columns=1, count=1, first_pixel=1), ((1,),))
 
 
 class ReadmeTest(unittest.TestCase):

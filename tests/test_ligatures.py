@@ -22,9 +22,9 @@ class RuleTest(unittest.TestCase):
 
     def test_rules(self):
         for left, right, wanted in (
-                (10, 1, 1), (10, 2, 2), (10, 3, None), (10, 128, None), (11, 1, 3), (11, 2, 2), (12, 1, 3), (12, 2, None),
-                (13, 3, 4), (13, 128, 5), (13, 1, None), (14, 3, None), (14, 128, 5), (128, 3, 4), (128, 128, 5),
-                (128, 1, None), (9, 1, None), (0, 0, None), (127, 128, None)):
+                (10, 1, 1), (10, 2, 2), (10, 3, None), (10, 128, None), (11, 1, 3), (11, 2, 2), (12, 1, 3),
+                (12, 2, None), (13, 3, 4), (13, 128, 5), (13, 1, None), (14, 3, None), (14, 128, 5), (128, 3, 4),
+                (128, 128, 5), (128, 1, None), (9, 1, None), (0, 0, None), (127, 128, None)):
             self.assertEqual(rule(self.STEPS, self.LABELS, left, right), wanted and ("kern", wanted), (left, right))
         self.assertEqual(rule(self.STEPS, self.LABELS, 15, 1), ("ligature", 9, False, False, 0))
 

@@ -65,7 +65,7 @@ class MachineTest(ProgramCase):
 
 class StepsTest(ProgramCase):
     def steps(self, text, count):
-        """The text has this many steps: with as many statements before it as go into 4000 it runs, with one more not."""
+        """The text has this many steps: it runs behind as many others as go into 4000, and not behind one more."""
         tree = parse(text)
         one = parse("a := 0;")
         Machine().run(one * (4000 - count) + tree)
@@ -307,8 +307,9 @@ class SecondRunTest(ProgramCase):
     def test_what_earlier_runs_did_stays(self):
         machine = Machine(resolution=4)
         picture, equations = machine.picture, machine.equations
-        run("a + b = 3; def f(n) = show n; enddef; declare pair p; " + OPEN + "fill (0, 0) -- (1, 0) -- (0, 2) -- cycle;"
-            " pickup (0, 0) -- (1, 0) -- (0, 1); ligtable 1: 2 kern 3;", machine)
+        run("a + b = 3; def f(n) = show n; enddef; declare pair p; " + OPEN
+            + "fill (0, 0) -- (1, 0) -- (0, 2) -- cycle; pickup (0, 0) -- (1, 0) -- (0, 1); "
+            "ligtable 1: 2 kern 3;", machine)
         self.assertIs(machine.picture, picture)
         self.assertIs(machine.equations, equations)
         run("a - b = 1; f(a); f(b); f(pix); p = (1, 2); endchar; ligtable 2: 1 =: 3;", machine)

@@ -103,9 +103,9 @@ def least_rectangle(pixels):
         return (0, 0, ())
     columns = [pixel[0] for pixel in pixels]
     heights = [pixel[1] for pixel in pixels]
-    across = range(min(columns), max(columns) + 1)
-    found = {pixel: True for pixel in pixels}
-    rows = []
-    for j in range(max(heights), min(heights) - 1, -1):
-        rows.append(tuple(1 if (i, j) in found else 0 for i in across))
-    return (min(columns), min(heights), tuple(rows))
+    left = min(columns)
+    bottom = min(heights)
+    rows = [[0] * (max(columns) - left + 1) for _ in range(bottom, max(heights) + 1)]
+    for i, j in pixels:
+        rows[j - bottom][i - left] = 1
+    return (left, bottom, tuple(tuple(row) for row in rows[::-1]))

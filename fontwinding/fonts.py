@@ -43,14 +43,14 @@ class Font:
 
     def table(self, metric):
         """The list of the table of a metric."""
-        return table(self._values(metric), LIMITS[metric])
+        return table(self._metric_values(metric), LIMITS[metric])
 
     def table_value(self, code, metric):
         """The table value of a metric of a character."""
         value = self.character(code)[4][metric]
-        return table_value(self._values(metric), LIMITS[metric], value)
+        return table_value(self._metric_values(metric), LIMITS[metric], value)
 
-    def _values(self, metric):
+    def _metric_values(self, metric):
         return [character[4][metric] for character in self.characters]
 
     def line(self, codes):

@@ -24,13 +24,13 @@ def made_pair(operands):
 def added(operands):
     """The sum of two values of the same kind, part by part."""
     left, right = operands
-    return (left[0],) + tuple(add_forms(a, b) for a, b in zip(left[1:], right[1:]))
+    return (left[0],) + tuple([add_forms(a, b) for a, b in zip(left[1:], right[1:])])
 
 
 def subtracted(operands):
     """The difference of two values of the same kind, part by part."""
     left, right = operands
-    return (left[0],) + tuple(subtract_forms(a, b) for a, b in zip(left[1:], right[1:]))
+    return (left[0],) + tuple([subtract_forms(a, b) for a, b in zip(left[1:], right[1:])])
 
 
 def scaled(value, number):

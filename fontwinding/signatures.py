@@ -3,60 +3,51 @@
 from fontwinding.errors import WrongKind
 from fontwinding.values import check_known, reduced
 
-NUMBERS = (("numeric", "numeric"),)
-FORMS = (("numeric",), ("pair",))
-SAME_FORMS = (("numeric", "numeric"), ("pair", "pair"))
-SAME_VALUES = (("numeric", "numeric"), ("pair", "pair"), ("transform", "transform"), ("truth", "truth"))
-MOVED_BY_NUMBER = (("pair", "numeric"), ("path", "numeric"), ("transform", "numeric"))
-ONE_NUMBER = (("numeric",),)
-ONE_PAIR = (("pair",),)
-# A pair stands for the path of one knot wherever a function takes a path.
-ONE_PATH = (("path",), ("pair",))
-
-# The combinations of kinds that each operation takes.
+# The combinations of kinds that each operation takes. A pair stands for the path of one knot
+# wherever a function takes a path.
 SIGNATURES = {
-    "pair": NUMBERS,
-    "minus": FORMS,
+    "pair": (("numeric", "numeric"),),
+    "minus": (("numeric",), ("pair",)),
     "not": (("truth",),),
-    "+": SAME_FORMS,
-    "-": SAME_FORMS,
+    "+": (("numeric", "numeric"), ("pair", "pair")),
+    "-": (("numeric", "numeric"), ("pair", "pair")),
     "*": (("numeric", "numeric"), ("numeric", "pair"), ("pair", "numeric")),
     "/": (("numeric", "numeric"), ("pair", "numeric")),
-    "div": NUMBERS,
-    "mod": NUMBERS,
-    "<": NUMBERS,
-    "<=": NUMBERS,
-    ">": NUMBERS,
-    ">=": NUMBERS,
-    "==": SAME_VALUES,
-    "<>": SAME_VALUES,
+    "div": (("numeric", "numeric"),),
+    "mod": (("numeric", "numeric"),),
+    "<": (("numeric", "numeric"),),
+    "<=": (("numeric", "numeric"),),
+    ">": (("numeric", "numeric"),),
+    ">=": (("numeric", "numeric"),),
+    "==": (("numeric", "numeric"), ("pair", "pair"), ("transform", "transform"), ("truth", "truth")),
+    "<>": (("numeric", "numeric"), ("pair", "pair"), ("transform", "transform"), ("truth", "truth")),
     "shifted": (("pair", "pair"), ("path", "pair"), ("transform", "pair")),
-    "scaled": MOVED_BY_NUMBER,
-    "xscaled": MOVED_BY_NUMBER,
-    "yscaled": MOVED_BY_NUMBER,
-    "slanted": MOVED_BY_NUMBER,
-    "rotated": MOVED_BY_NUMBER,
+    "scaled": (("pair", "numeric"), ("path", "numeric"), ("transform", "numeric")),
+    "xscaled": (("pair", "numeric"), ("path", "numeric"), ("transform", "numeric")),
+    "yscaled": (("pair", "numeric"), ("path", "numeric"), ("transform", "numeric")),
+    "slanted": (("pair", "numeric"), ("path", "numeric"), ("transform", "numeric")),
+    "rotated": (("pair", "numeric"), ("path", "numeric"), ("transform", "numeric")),
     "transformed": (("pair", "transform"), ("path", "transform"), ("transform", "transform")),
-    "floor": ONE_NUMBER,
-    "round": ONE_NUMBER,
-    "min": NUMBERS,
-    "max": NUMBERS,
-    "xpart": ONE_PAIR,
-    "ypart": ONE_PAIR,
-    "known": FORMS,
+    "floor": (("numeric",),),
+    "round": (("numeric",),),
+    "min": (("numeric", "numeric"),),
+    "max": (("numeric", "numeric"),),
+    "xpart": (("pair",),),
+    "ypart": (("pair",),),
+    "known": (("numeric",), ("pair",)),
     "dot": (("pair", "pair"),),
     "way": (("numeric", "numeric", "numeric"), ("numeric", "pair", "pair")),
-    "length": ONE_PATH,
+    "length": (("path",), ("pair",)),
     "point": (("numeric", "path"), ("numeric", "pair")),
     "subpath": (("numeric", "numeric", "path"), ("numeric", "numeric", "pair")),
-    "reverse": ONE_PATH,
+    "reverse": (("path",), ("pair",)),
     "winding": (("path", "pair"), ("pair", "pair")),
-    "area": ONE_PATH,
+    "area": (("path",), ("pair",)),
     "inverse": (("transform",),),
-    "top": ONE_PAIR,
-    "bot": ONE_PAIR,
-    "lft": ONE_PAIR,
-    "rt": ONE_PAIR,
+    "top": (("pair",),),
+    "bot": (("pair",),),
+    "lft": (("pair",),),
+    "rt": (("pair",),),
 }
 
 # How many operands, from the left, may be unknown; none for the operations that are not here.

@@ -116,6 +116,11 @@ class LengthTest(SettingCase):
                 set_line(steps, labels, codes)
         with self.assertRaises(TooLong):
             set_line((), (), [1] * 399)
+        # The first rule would make the row short enough, but it is too long at the beginning.
+        steps, labels = table_of({(128, 1): ligature("=:", 3)})
+        self.assertEqual(len(set_line(steps, labels, [1] * 398)[0]), 398)
+        with self.assertRaises(TooLong):
+            set_line(steps, labels, [1] * 399)
 
     def test_lines_that_grow(self):
         for sign in ("|=:|", "|=:|>", "|=:|>>"):

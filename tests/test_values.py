@@ -320,7 +320,7 @@ class MoverTest(ProgramCase):
         for degrees, x, y in ((0, 1, 2), (90, -2, 1), (180, -1, -2), (270, 2, -1), (360, 1, 2), (-90, 2, -1),
                               (-450, 2, -1), (36000090, -2, 1)):
             self.evaluates(f"(1, 2) rotated {degrees}", x, y)
-        for degrees in ("45", "1", "89.5", "-91", "91", "(1 / 90)"):
+        for degrees in ("45", "1", "89.5", "-91", "91", "(1 / 90)", "(90 / 7)", "(-180 / 11)"):
             for left in ("(1, 2)", "identity", self.PATH, "z"):
                 self.fails(OutOfRange, f"show {left} rotated {degrees};")
 
